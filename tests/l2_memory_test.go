@@ -873,45 +873,53 @@ func overlaid() impl.Memory {
 	return impl.Memory{Arrays: [][]byte{list[:4], list[2:], list[:4]}}
 }
 
-// checkCall makes a call twice: both calls return the same, zero values if they fail, leave the
-// arguments as they were, and share no memory with these or with each other.
+// checkCall checks the results of a call, and that it fails for arguments that are not valid.
 func checkCall(t *testing.T, c memoryCall, m impl.Memory, a, b impl.Window, n [3]int, list []byte) {
 	t.Helper()
 	memory, bytesOf := cloned(m), bytes.Clone(list)
-	first, second := c.call(m, a, b, n, list), c.call(m, a, b, n, list)
+	ok := checkResults(t, c.name, func() []any { return c.call(m, a, b, n, list) }, func() bool {
+		return equalMemories(m, memory) && bytes.Equal(list, bytesOf)
+	})
+	if ok && !fitArguments(memory, []impl.Window{a, b}[:c.needs]) {
+		t.Fatalf("%s of %v, %v on %v does not fail", c.name, a, b, m)
+	}
+}
+
+// checkResults makes a call again and again: all return the same, zero values if they fail, leave
+// the arguments as they were, which kept tells, and share no memory with these or with each other.
+// It returns the last result, which is whether the call did not fail.
+func checkResults(t *testing.T, name string, call func() []any, kept func() bool) bool {
+	t.Helper()
+	first, second := call(), call()
 	if !reflect.DeepEqual(first, second) {
-		t.Fatalf("%s is %v, and then %v", c.name, first, second)
+		t.Fatalf("%s is %v, and then %v", name, first, second)
 	}
 	last := len(first) - 1
 	ok := first[last].(bool)
 	for _, result := range first[:last] {
 		if !ok && !isZero(result) {
-			t.Fatalf("%s fails with %v", c.name, first)
+			t.Fatalf("%s fails with %v", name, first)
 		}
 	}
-	if ok && !fitArguments(memory, []impl.Window{a, b}[:c.needs]) {
-		t.Fatalf("%s of %v, %v on %v does not fail", c.name, a, b, m)
-	}
 	for _, result := range first {
-		scribble(t, c.name, result)
+		scribble(t, name, result)
 	}
-	if !equalMemories(m, memory) || !bytes.Equal(list, bytesOf) {
-		t.Fatalf("%s changes its arguments, or shares memory with them", c.name)
+	if !kept() {
+		t.Fatalf("%s changes its arguments, or shares memory with them", name)
 	}
-	if third := c.call(m, a, b, n, list); !reflect.DeepEqual(third, second) {
-		t.Fatalf("%s shares memory from call to call", c.name)
+	if third := call(); !reflect.DeepEqual(third, second) {
+		t.Fatalf("%s shares memory from call to call", name)
 	}
+	return ok
 }
 
 // isZero reports whether a result is a zero value, or an empty slice.
 func isZero(result any) bool {
-	switch x := result.(type) {
-	case impl.Memory:
-		return len(x.Arrays) == 0
-	case []byte:
-		return len(x) == 0
+	if m, is := result.(impl.Memory); is {
+		return len(m.Arrays) == 0
 	}
-	return reflect.ValueOf(result).IsZero()
+	value := reflect.ValueOf(result)
+	return value.Kind() == reflect.Slice && value.Len() == 0 || value.IsZero()
 }
 
 // fitArguments reports whether a Memory is valid and all of a list are Windows on it.
@@ -924,24 +932,39 @@ func fitArguments(m impl.Memory, list []impl.Window) bool {
 	return impl.IsMemory(m)
 }
 
-// scribble writes to all memory that a result has, and checks that no two arrays of it share any.
+// scribble writes to all memory that a result has, and checks that no two slices of it share any.
 func scribble(t *testing.T, name string, result any) {
 	t.Helper()
-	arrays := [][]byte{}
 	switch x := result.(type) {
 	case impl.Memory:
-		arrays = x.Arrays
+		scribbleSlices(t, name, x.Arrays)
 	case []byte:
-		arrays = [][]byte{x}
-	}
-	for i, array := range arrays {
-		copy(array[:cap(array)], bytes.Repeat([]byte{byte(101 + i)}, cap(array)))
-	}
-	for i, array := range arrays {
-		if bytes.Count(array[:cap(array)], []byte{byte(101 + i)}) != cap(array) {
-			t.Fatalf("%s returns arrays that share memory", name)
+		scribbleSlices(t, name, [][]byte{x})
+	case []int:
+		scribbleSlices(t, name, [][]int{x})
+	case [][]int:
+		scribbleSlices(t, name, x)
+	case [][2]int:
+		for i := range x[:cap(x)] {
+			x[:cap(x)][i] = [2]int{101, 102}
 		}
 	}
+}
+
+// scribbleSlices writes to each of the slices up to its capacity, and to the list of them.
+func scribbleSlices[T byte | int](t *testing.T, name string, list [][]T) {
+	t.Helper()
+	for i, slice := range list {
+		copy(slice[:cap(slice)], slices.Repeat([]T{T(101 + i)}, cap(slice)))
+	}
+	for i, slice := range list {
+		for _, x := range slice[:cap(slice)] {
+			if x != T(101+i) {
+				t.Fatalf("%s returns slices that share memory", name)
+			}
+		}
+	}
+	clear(list[:cap(list)])
 }
 
 func TestParseMemoryReturnsForAll(t *testing.T) {
