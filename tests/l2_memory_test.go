@@ -938,6 +938,8 @@ func scribble(t *testing.T, name string, result any) {
 	switch x := result.(type) {
 	case impl.Memory:
 		scribbleSlices(t, name, x.Arrays)
+	case impl.Gap:
+		scribbleSlices(t, name, x.Memory.Arrays)
 	case []byte:
 		scribbleSlices(t, name, [][]byte{x})
 	case []int:
