@@ -918,6 +918,9 @@ func isZero(result any) bool {
 	if m, is := result.(impl.Memory); is {
 		return len(m.Arrays) == 0
 	}
+	if r, is := result.(impl.Rope); is {
+		return len(r.Parts) == 0
+	}
 	value := reflect.ValueOf(result)
 	return value.Kind() == reflect.Slice && value.Len() == 0 || value.IsZero()
 }
@@ -940,6 +943,10 @@ func scribble(t *testing.T, name string, result any) {
 		scribbleSlices(t, name, x.Arrays)
 	case impl.Gap:
 		scribbleSlices(t, name, x.Memory.Arrays)
+	case impl.Rope:
+		for i := range x.Parts[:cap(x.Parts)] {
+			x.Parts[:cap(x.Parts)][i] = impl.Window{Array: 101, Len: 102}
+		}
 	case []byte:
 		scribbleSlices(t, name, [][]byte{x})
 	case []int:
