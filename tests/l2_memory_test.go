@@ -921,6 +921,9 @@ func isZero(result any) bool {
 	if r, is := result.(impl.Rope); is {
 		return len(r.Parts) == 0
 	}
+	if a, is := result.(impl.Arena); is {
+		return isZeroArena(a)
+	}
 	value := reflect.ValueOf(result)
 	return value.Kind() == reflect.Slice && value.Len() == 0 || value.IsZero()
 }
@@ -944,8 +947,13 @@ func scribble(t *testing.T, name string, result any) {
 	case impl.Gap:
 		scribbleSlices(t, name, x.Memory.Arrays)
 	case impl.Rope:
-		for i := range x.Parts[:cap(x.Parts)] {
-			x.Parts[:cap(x.Parts)][i] = impl.Window{Array: 101, Len: 102}
+		scribble(t, name, x.Parts)
+	case impl.Arena:
+		scribbleSlices(t, name, x.Memory.Arrays)
+		scribbleSlices(t, name, [][]int{x.Marks})
+	case []impl.Window:
+		for i := range x[:cap(x)] {
+			x[:cap(x)][i] = impl.Window{Array: 101, Len: 102}
 		}
 	case []byte:
 		scribbleSlices(t, name, [][]byte{x})
