@@ -955,6 +955,10 @@ func scribble(t *testing.T, name string, result any) {
 		for i := range x[:cap(x)] {
 			x[:cap(x)][i] = impl.Window{Array: 101, Len: 102}
 		}
+	case []impl.Entry:
+		for i := range x[:cap(x)] {
+			x[:cap(x)][i] = impl.Entry{Key: [impl.KeySize]byte{101}, Value: impl.Window{Array: 102}}
+		}
 	case []byte:
 		scribbleSlices(t, name, [][]byte{x})
 	case []int:
